@@ -1,0 +1,1 @@
+"""A glassworks: furnace, pots, teams and their pieces, the oven and the store."""
