@@ -1,4 +1,4 @@
-"""The refusals, and the checks that several calls share."""
+"""The refusals, and what several calls share."""
 
 # One number is refused with for several causes, so each is named for what they have in common.
 ABSENT = -2
@@ -21,3 +21,10 @@ def within(number, least, most):
 
 def is_there(things, number):
     return number < len(things)
+
+
+def many_as_bits(numbers):
+    bits = 0
+    for number in numbers:
+        bits |= 1 << number
+    return [len(numbers), bits]

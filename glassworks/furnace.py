@@ -1,6 +1,7 @@
 """The furnace and its pots: set, charged, founded, ready, open."""
 
-from glassworks.checks import ABSENT, FULL, NEVER, NOT_AS_TOLD, TOO_LITTLE, TOO_MUCH, UNFIT, is_there, within
+from glassworks.checks import ABSENT, FULL, NEVER, NOT_AS_TOLD, TOO_LITTLE, TOO_MUCH, UNFIT
+from glassworks.checks import is_there, many_as_bits, within
 from glassworks.state import COLOURS, FURNACE_COLDEST, Pot
 
 FURNACE_HOTTEST = 1600
@@ -96,10 +97,15 @@ def minutes_till_ready(works, p):
 
 
 def pots_open(works):
-    bits = 0
-    many = 0
-    for p, pot in enumerate(works.pots):
-        if is_pot_open(works, pot):
-            bits |= 1 << p
-            many += 1
-    return [many, bits]
+    return many_as_bits([p for p, pot in enumerate(works.pots) if is_pot_open(works, pot)])
+
+
+def look_at_pot(works, p):
+    if not is_there(works.pots, p):
+        return [ABSENT]
+    pot = works.pots[p]
+    return [pot.grams, pot.most, pot.colour, pot.hot]
+
+
+def look_at_furnace(works):
+    return [works.heat, works.goal, works.minute]

@@ -1,7 +1,7 @@
 """The oven and the store: pieces put in, cooled, taken, sold."""
 
 from glassworks.checks import ABSENT, ALREADY, COOLING, EMPTY, FULL, NOT_YET, is_there
-from glassworks.state import OVEN_FIRST
+from glassworks.state import COLOURS, OVEN_FIRST
 from glassworks.teams import free_team, is_shaped
 
 MOST_IN_OVEN = 8
@@ -79,3 +79,27 @@ def sell_piece(works, s, colour):
     works.store.remove(piece)
     works.sold += works.styles[s].grams
     return [len(works.store)]
+
+
+def look_at_oven(works):
+    return [len(works.oven), works.oven_heat, 1 if works.cooling else 0, oven_bears(works)]
+
+
+def look_inside(works, k):
+    if not is_there(works.oven, k):
+        return [ABSENT]
+    piece = works.oven[k]
+    return [piece[0], piece[1]]
+
+
+def cold_enough_in(works):
+    if len(works.oven) == 0:
+        return [EMPTY]
+    return [minutes_till_cold(works)]
+
+
+def look_at_store(works, s):
+    if not is_there(works.styles, s):
+        return [ABSENT]
+    of_colours = [works.store.count((s, colour)) for colour in range(COLOURS)]
+    return [sum(of_colours)] + of_colours

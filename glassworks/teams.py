@@ -1,6 +1,7 @@
 """Styles, teams and their pieces: gathered, shaped, heated, cracked, smashed."""
 
-from glassworks.checks import ABSENT, ALREADY, EMPTY, FULL, NOT_AS_TOLD, NOT_YET, TOO_LITTLE, UNFIT, is_there, within
+from glassworks.checks import ABSENT, ALREADY, EMPTY, FULL, NOT_AS_TOLD, NOT_YET, TOO_LITTLE, UNFIT
+from glassworks.checks import is_there, many_as_bits, within
 from glassworks.furnace import is_pot_open
 from glassworks.state import HEAT, REST, SHAPE, Piece, Style, Team
 
@@ -95,6 +96,10 @@ def is_shaped(works, piece):
     return piece.done >= works.styles[piece.style].steps
 
 
+def heat_after_loss(heat, style):
+    return max(heat - style.loses, 0)
+
+
 def piece_minute(works, team):
     piece = team.piece
     if team.does == HEAT:
@@ -103,7 +108,7 @@ def piece_minute(works, team):
         # The step is looked at ahead of the loss: a piece that's just as hot as work is still shaped.
         if team.does == SHAPE and piece.heat >= works.work and not is_shaped(works, piece):
             piece.done += 1
-        piece.heat = max(piece.heat - works.styles[piece.style].loses, 0)
+        piece.heat = heat_after_loss(piece.heat, works.styles[piece.style])
     if piece.heat < CRACKS_BELOW:
         make_cullet(works, team)
         works.cracked += 1
@@ -113,3 +118,23 @@ def teams_minute(works):
     for team in works.teams:
         if team.piece is not None:
             piece_minute(works, team)
+
+
+def look_at_piece(works, t):
+    if not is_there(works.teams, t):
+        return [ABSENT]
+    team = works.teams[t]
+    piece = team.piece
+    if piece is None:
+        return [EMPTY]
+    return [piece.style, piece.colour, piece.heat, piece.done, team.does]
+
+
+def teams_free(works):
+    return many_as_bits([t for t, team in enumerate(works.teams) if team.piece is None])
+
+
+def teams_free_for(works, s):
+    if not is_there(works.styles, s):
+        return [ABSENT]
+    return many_as_bits([t for t, team in enumerate(works.teams) if team.piece is None and can_make(team, s)])

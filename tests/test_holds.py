@@ -3,8 +3,10 @@
 import random
 
 from glassworks.furnace import is_pot_ready
-from tests.helper import (BIG, SHAPE, Case, charge, cool, does, facts, fire, gather, line_after, minutes, molten,
-                          opens, pot, put, ready, run, sell, smash, start, style, take, team)
+from tests.helper import (BIG, SHAPE, Case, any_list, charge, cold, cool, does, facts, fire, gather, grams, line_after,
+                          minutes, molten, pot, put, run, start, style, take)
+
+BACK, AGAIN = 29, 30
 
 
 def grams_held(works):
@@ -15,33 +17,6 @@ def grams_held(works):
             + sum(of(team.piece.style) for team in works.teams if team.piece is not None)
             + sum(of(piece[0]) for piece in works.oven) + sum(of(piece[0]) for piece in works.store)
             + sum(works.cullet) + works.sold)
-
-
-def any_call(chance):
-    """A call that's mostly let through, and now and then not."""
-    t, p, s = chance.randint(0, 3), chance.randint(0, 2), chance.randint(0, 3)
-    odd = chance.random() < 0.03
-    few = chance.choice((1, 1, 1, 2, 3, 50, 150))
-    choices = (
-        (1, style(chance.randint(0, 300), chance.randint(1, 4), chance.randint(0, 201), chance.randint(0, 10))),
-        (1, team(chance.randint(0, 32))), (1, pot(chance.randint(0, 3000))),
-        (6, charge(p, 4 if odd else chance.randint(0, 1), chance.randint(0, 500), 0)),
-        (6, charge(p, chance.randint(0, 1), 0, chance.randint(0, 200))),
-        (2, fire(chance.choice((700, 850, 1000, 1100, 1100, 1600, 1601)))),
-        (16, gather(t, p, s)), (20, does(t, chance.choice((0, 1, 1, 1, 1, 2, 3)))),
-        (24, minutes(0 if odd else few)), (14, put(t)), (6, cool()), (10, take()), (2, smash(t)),
-        (8, sell(s, chance.randint(0, 1))), (4, ready(p)), (3, opens()))
-    return chance.choices([call for weight, call in choices], [weight for weight, call in choices])[0]
-
-
-def any_list(seed):
-    chance = random.Random(seed)
-    calls = [start(1000, chance.randint(1, 9), chance.randint(600, 1000))]
-    for loses in (0, chance.randint(0, 20), chance.randint(0, 200)):
-        calls.append(style(50, chance.randint(1, 3), loses, chance.randint(2, 10)))
-    calls += [team(), team(), team(7), pot(3000), pot(2000), pot(1000)]
-    calls += [charge(p, chance.randint(0, 1), 900, 0) for p in range(3)] + [fire(1100), minutes(110)]
-    return calls + [any_call(chance) for number in range(400)]
 
 
 class EachList(Case):
@@ -60,13 +35,20 @@ class EachList(Case):
             calls = any_list(seed)
             for call, told in zip(calls, run(calls)):
                 done[call[0]] = done.get(call[0], 0) + (told[0] >= 0)
-        self.assertEqual([number for number in range(16) if done.get(number, 0) < 10], [])
+        self.assertEqual([number for number in range(32) if done.get(number, 0) < 10], [])
 
     def test_each_gram(self):
         def look(works, before, call, told):
             self.assertEqual(grams_held(works), works.raw)
             self.assertTrue(all(grams >= 0 for grams in works.cullet))
         self.watch(look)
+
+    def test_each_gram_as_it_is_told(self):
+        for seed in range(25):
+            calls = [one for call in any_list(seed) for one in (call, grams())]
+            for row in run(calls)[1::2]:
+                self.assertEqual(len(row), 7)
+                self.assertEqual(row[0], sum(row[1:]))
 
     def test_a_refusal_leaves_all_as_it_was(self):
         def look(works, before, call, told):
@@ -75,11 +57,24 @@ class EachList(Case):
                 self.assertEqual(facts(works), before)
         self.watch(look)
 
-    def test_ready_and_open_change_nothing(self):
+    def test_looks_change_nothing(self):
         def look(works, before, call, told):
-            if call[0] in (14, 15):
+            if call[0] >= 14 and call[0] not in (BACK, AGAIN):
                 self.assertEqual(facts(works), before)
         self.watch(look)
+
+    def test_all_can_be_taken_back_and_done_again(self):
+        for seed in range(25):
+            line = line_after([start()])
+            for call in any_list(seed):
+                before = facts(line.works)
+                told = line.answer(call[0], list(call[1:]))
+                if 1 <= call[0] <= 13 and told[0] >= 0:
+                    after = facts(line.works)
+                    line.answer(BACK, [])
+                    self.assertEqual(facts(line.works), before)
+                    line.answer(AGAIN, [])
+                    self.assertEqual(facts(line.works), after)
 
     def test_never_too_fast(self):
         def look(works, before, call, told):
@@ -92,13 +87,13 @@ class EachList(Case):
     def test_one_colour_to_a_pot(self):
         def look(works, before, call, told):
             for was, pot in zip(before["pots"], works.pots):
-                if was["grams"] > 0 and call[0] != 0:
+                if was["grams"] > 0 and call[0] not in (0, BACK, AGAIN):
                     self.assertEqual(pot.colour, was["colour"])
         self.watch(look)
 
     def test_only_what_is_shaped_comes_into_the_oven(self):
         def look(works, before, call, told):
-            if len(works.oven) > len(before["oven"]):
+            if len(works.oven) > len(before["oven"]) and call[0] not in (BACK, AGAIN):
                 piece = before["teams"][call[1]]["piece"]
                 self.assertEqual(call[0], 9)
                 self.assertEqual(piece["done"], works.styles[piece["style"]].steps)
@@ -138,20 +133,25 @@ class InSoMany(Case):
             for number in range(chance.randint(1, 8)):
                 before += [gather(0, 0, chance.randint(0, 4)), does(0, SHAPE), minutes(1), put()]
             told = run(before + [cool()])[-1][0]
+            self.assertEqual(run(before + [cold()])[-1], [told])
             self.assertEqual(run(before + [cool(), minutes(told - 1), take()])[-1], [-16])
             self.assertGreater(run(before + [cool(), minutes(told), take()])[-1][0], 0)
 
 
 class AnyNumbers(Case):
     def test_any_numbers_may_be_handed_in(self):
-        handed = {0: 3, 1: 4, 2: 1, 3: 1, 4: 4, 5: 1, 6: 3, 7: 2, 8: 1, 9: 1, 10: 0, 11: 0, 12: 1, 13: 2, 14: 1, 15: 0}
+        handed = {0: 3, 1: 4, 2: 1, 3: 1, 4: 4, 5: 1, 6: 3, 7: 2, 8: 1, 9: 1, 10: 0, 11: 0, 12: 1, 13: 2, 14: 1, 15: 0,
+                  16: 1, 17: 1, 18: 1, 19: 1, 20: 0, 21: 1, 22: 0, 23: 0, 24: 1, 25: 1, 26: 1, 27: 0, 28: 0, 29: 0,
+                  30: 0, 31: 0}
+        behind = {8: 2, 15: 1, 17: 1, 18: 4, 19: 3, 20: 3, 21: 1, 23: 1, 24: 1, 25: 4, 27: 6, 28: 2, 31: 6}
         chance = random.Random(7)
         for time in range(20):
             calls = molten(teams=2) + [gather()]
-            for number in range(100):
-                call = chance.randint(1, 15)
+            for number in range(300):
+                call = chance.randint(0 if number % 50 == 0 else 1, 31)
                 calls.append((call,) + tuple(chance.choice((0, 1, 2, 3, 4, 5, 31, 32, 500000, 2 ** 31, BIG))
                                              for place in range(handed[call])))
-            for row in run(calls):
+            for call, row in zip(calls, run(calls)):
+                self.assertEqual(len(row), 1 + behind.get(call[0], 0) if row[0] >= 0 else 1)
                 self.assertTrue(-2 ** 31 <= row[0] < 2 ** 31)
                 self.assertTrue(all(0 <= number <= BIG for number in row[1:]))

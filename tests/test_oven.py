@@ -1,26 +1,6 @@
 from glassworks.oven import minutes_till_cold
-from tests.helper import (BIG, SHAPE, Case, charge, cool, does, gather, minutes, molten, put, run, sell, style, take,
-                          works_after)
-
-QUICK = style(10, 1, 0, 10)
-
-
-def shaped(s=0, t=0, p=0):
-    return [gather(t, p, s), does(t, SHAPE), minutes(1)]
-
-
-def into_oven(many, s=0):
-    return (shaped(s) + [put()]) * many
-
-
-def into_store(many, s=0):
-    """So many pieces, of a style that bears 10 degrees, 8 at a time."""
-    calls = []
-    while many > 0:
-        load = min(many, 8)
-        calls += into_oven(load, s) + [cool(), minutes(45), take()]
-        many -= load
-    return calls
+from tests.helper import (BIG, QUICK, SHAPE, Case, charge, cool, does, gather, into_oven, into_store, minutes, molten,
+                          put, run, sell, shaped, style, take, works_after)
 
 
 class Put(Case):

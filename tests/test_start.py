@@ -1,5 +1,6 @@
-from tests.helper import (BIG, Case, charge, cool, does, facts, fire, gather, line_after, minutes, molten, opens, pot,
-                          put, ready, run, sell, smash, start, style, take, team, works_after)
+from tests.helper import (BIG, LOOKS, Case, charge, cool, does, facts, fire, gather, heats, inside, least, line_after,
+                          look, minutes, molten, opens, piece, pot, put, ready, run, sell, smash, start, store, style,
+                          take, team, who, works_after)
 
 
 class Start(Case):
@@ -22,6 +23,7 @@ class Start(Case):
                                    take(), gather(0), does(0, 1), minutes(2), put(0), cool(), gather(1)]
         calls.append(start(1100, 9, 700))
         self.assertEqual(facts(line_after(calls)), facts(line_after([start(1100, 9, 700)])))
+        self.assertEqual(run(calls + LOOKS)[len(calls):], run([start(1100, 9, 700)] + LOOKS)[1:])
         self.answers(calls + [ready(), smash(), style(), team(), pot(), sell(), take(), cool(), charge(0, 0, 0, 1),
                               fire(30), minutes(1)],
                      [0], [-2], [-2], [0], [0], [0], [-6], [-6], [-6], [-12], [20], [1, 30, 0])
@@ -40,7 +42,8 @@ class Start(Case):
 
 class NoneThere(Case):
     def test_absent_is_looked_at_first(self):
-        for call in (charge(0, 4, 0, 0), gather(0, 0, 0), does(0, 3), put(0), smash(0), ready(0)):
+        for call in (charge(0, 4, 0, 0), gather(0, 0, 0), does(0, 3), put(0), smash(0), ready(0), least(0), heats(0),
+                     piece(0), look(0), inside(0), who(0), store(0)):
             self.refused([start()], call, -2)
 
     def test_sell_looks_for_pieces_alone(self):
